@@ -1,0 +1,1 @@
+"""A long business, done or undone, whole."""
