@@ -1,18 +1,22 @@
 """The desk: calls on one business come in as whole numbers and are answered in whole numbers."""
 
 WRONG = -22
+TOO_LATE = -16
 NOTHING = -11
 NOT_TOLD = -2
 
 START = 0
 NEXT = 1
 ANSWER = 2
+TICK = 3
+STOP = 4
+STEP = 6
 
 # How many numbers a call has, its own number among them; lb_start tells its length itself.
-CALL_SIZES = (None, 1, 5, 2)
+CALL_SIZES = (None, 1, 5, 2, 1, 1, 2)
 
 NUMBER_FORM = 0
-TELLING_FORM = 1
+THREE_FORM = 1
 
 ON = 0
 BACK = 1
@@ -29,6 +33,10 @@ TO_UNDO = 1
 UNANSWERED = 0
 ILL = 1
 WELL = 2
+
+NEITHER = 0
+WAS_DONE = 1
+WAS_UNDONE = 2
 
 NUMBERS_A_STEP = 4
 MOST_STEPS = 32
@@ -113,6 +121,14 @@ class Step:
         # A point that may yet turn out to be done must not be gone back from.
         return self.kind != POINT or self.doing.all_answered()
 
+    def is_point_told(self):
+        return self.kind == POINT and self.doing.how_many() > 0
+
+    def standing(self):
+        if self.was_undone():
+            return WAS_UNDONE
+        return WAS_DONE if self.was_done() else NEITHER
+
     def tellings(self, what):
         return self.doing if what == TO_DO else self.undoing
 
@@ -154,7 +170,7 @@ class Business:
         # A fresh telling is neither over nor answered, so there is nothing to settle behind it.
         told = self.steps[place].tellings(what)
         told.tell(self.now)
-        return [TELLING_FORM, what, place, told.how_many()]
+        return [THREE_FORM, what, place, told.how_many()]
 
     def place_to_do(self):
         done = self.done_bits()
@@ -205,6 +221,21 @@ class Business:
         self.settle()
         return self.way
 
+    def turn_back(self):
+        if self.way != ON:
+            return NOTHING
+        if any([step.is_point_told() for step in self.steps]):
+            return TOO_LATE
+        self.way = BACK
+        self.settle()
+        return 0
+
+    def tell_step(self, i):
+        if i >= len(self.steps):
+            return [NUMBER_FORM, WRONG]
+        step = self.steps[i]
+        return [THREE_FORM, step.doing.how_many(), step.undoing.how_many(), step.standing()]
+
     def settle(self):
         if self.way == ON:
             if any([step.is_given_up(self.now) for step in self.steps]):
@@ -227,9 +258,19 @@ class Desk:
             return [NUMBER_FORM, self.start(call[2:])]
         if call[0] == NEXT:
             return self.business.tell_next()
+        if call[0] == STEP:
+            return self.business.tell_step(call[1])
+        return [NUMBER_FORM, self.number_for(call)]
+
+    def number_for(self, call):
         if call[0] == ANSWER:
-            return [NUMBER_FORM, self.business.take_answer(call[1], call[2], call[3], call[4])]
-        return [NUMBER_FORM, self.business.tick(call[1])]
+            return self.business.take_answer(call[1], call[2], call[3], call[4])
+        if call[0] == TICK:
+            return self.business.tick(call[1])
+        if call[0] == STOP:
+            return self.business.turn_back()
+        # lb_how is the one that's left.
+        return self.business.way
 
     def start(self, numbers):
         steps = read_steps(numbers)

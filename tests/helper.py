@@ -3,6 +3,7 @@
 from longdeed.desk import answers
 
 WRONG = (0, -22)
+TOO_LATE = (0, -16)
 NOTHING = (0, -11)
 NOT_TOLD = (0, -2)
 ZERO = (0, 0)
@@ -14,8 +15,8 @@ DONE = (0, 2)
 UNDONE = (0, 3)
 
 NEXT = [1]
-# No ticks go, so this only asks where the business goes.
-HOW = [3, 0]
+STOP = [4]
+HOW = [5]
 
 
 def step(needs=(), wait=10, tries=2, kind=0):
@@ -37,6 +38,15 @@ def ill(i, k, what=0):
 
 def tick(ticks):
     return [3, ticks]
+
+
+def look(i):
+    return [6, i]
+
+
+def seen(done, undone, standing):
+    """What lb_step_ answers of a step told so often to be done, and to be undone."""
+    return (1, done, undone, standing)
 
 
 def do(i, k):
@@ -188,3 +198,21 @@ class Model:
         self.time += ticks
         self.settle()
         return (0, self.way)
+
+    def stop(self):
+        if self.way != 0:
+            return NOTHING
+        if any(entry["what"] == 0 and self.steps[entry["i"]][3] == 1 for entry in self.log):
+            return TOO_LATE
+        self.way = 1
+        self.settle()
+        return ZERO
+
+    def how(self):
+        return (0, self.way)
+
+    def look(self, i):
+        if i >= len(self.steps):
+            return WRONG
+        standing = 2 if self.answered_well(1, i) else 1 if self.answered_well(0, i) else 0
+        return seen(len(self.of(0, i)), len(self.of(1, i)), standing)

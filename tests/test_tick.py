@@ -2,7 +2,7 @@
 
 import unittest
 
-from helper import BACK, DONE, HOW, NEXT, NOTHING, ON, ONE, UNDONE, WRONG, ZERO
+from helper import BACK, DONE, NEXT, NOTHING, ON, ONE, UNDONE, WRONG, ZERO
 from helper import ask, do, ill, start, step, tick, undo, well
 
 
@@ -49,12 +49,12 @@ class TickTest(unittest.TestCase):
         self.assertEqual(told, [ZERO, do(0, 1), BACK, undo(0, 1), ONE, UNDONE, UNDONE])
 
     def test_undone_at_once_where_nothing_was_done(self):
-        self.assertEqual(ask(start(step(tries=1), step([0])), NEXT, ill(0, 1), HOW),
+        self.assertEqual(ask(start(step(tries=1), step([0])), NEXT, ill(0, 1), tick(0)),
                          [ZERO, do(0, 1), ONE, UNDONE])
 
     def test_steps_given_up_by_one_tick(self):
         told = ask(start(step(wait=5, tries=1), step(wait=5, tries=1)), NEXT, NEXT, tick(5), well(0, 1), well(1, 1),
-                   HOW, NEXT, NEXT)
+                   tick(0), NEXT, NEXT)
         self.assertEqual(told, [ZERO, do(0, 1), do(1, 1), BACK, ONE, ONE, BACK, undo(1, 1), undo(0, 1)])
 
 
